@@ -1,0 +1,1 @@
+"""Issuing lots of a perishable product, week by week."""
