@@ -1,6 +1,6 @@
 """The operations on lots of a perishable product and on the demand of the weeks."""
 
-from freshlots.limits import NUMBERS_PER_LOT, issuing_in_limits
+from freshlots.limits import NUMBERS_PER_LOT, issuing_in_limits, stock_in_limits
 
 
 class Lot:
@@ -10,6 +10,10 @@ class Lot:
         self.first = first
         self.last = last
         self.amount = amount
+
+    def usable_in(self, week):
+        """Tell whether the lot is usable in the week."""
+        return self.first <= week <= self.last
 
 
 def shortages(rule, lots, demand):
@@ -33,9 +37,40 @@ def remaining(rule, lots, demand):
     return [sum(wasted)] + left
 
 
+def issued_in_week(rule, week, lots, demand):
+    """Answer the number of lots, then the amount that is taken from each lot in the week."""
+    if not issuing_in_limits(rule, lots, demand):
+        return out_of_limits()
+    if week >= len(demand):
+        return does_not_exist()
+    amounts = issue_all_weeks(rule, read_lots(lots), demand)[week]
+    return [len(amounts)] + amounts
+
+
+def best_proof(lots, demand):
+    """Answer the greatest proven shortage of a set of weeks, then the smallest mask that has it."""
+    if not stock_in_limits(lots, demand):
+        return out_of_limits()
+    stock = read_lots(lots)
+    shortage = 0
+    smallest = 0
+    for mask in range(1 << len(demand)):
+        proven = proven_by(mask, stock, demand)
+        # Only a greater one counts: of masks that prove the same, the smallest has come first.
+        if proven > shortage:
+            shortage = proven
+            smallest = mask
+    return [shortage, smallest]
+
+
 def out_of_limits():
     """Answer the refusal of an argument that is outside its limits."""
     return [-22]
+
+
+def does_not_exist():
+    """Answer the refusal of a week that doesn't exist."""
+    return [-2]
 
 
 def read_lots(lots):
@@ -56,7 +91,7 @@ def issue_all_weeks(rule, stock, demand):
     left = [lot.amount for lot in stock]
     taken = []
     for week, wanted in enumerate(demand):
-        usable = [index for index in order if stock[index].first <= week <= stock[index].last]
+        usable = [index for index in order if stock[index].usable_in(week)]
         amounts = issue_one_week(wanted, usable, left)
         left = subtract(left, amounts)
         taken.append(amounts)
@@ -76,3 +111,11 @@ def issue_one_week(wanted, usable, left):
 def subtract(left, amounts):
     """Answer what is left of each lot once the amounts are taken."""
     return [before - amount for before, amount in zip(left, amounts)]
+
+
+def proven_by(mask, stock, demand):
+    """Answer the shortage that the set of weeks of the mask proves."""
+    weeks = [week for week in range(len(demand)) if mask & (1 << week) != 0]
+    wanted = sum([demand[week] for week in weeks])
+    usable = sum([lot.amount for lot in stock if any([lot.usable_in(week) for week in weeks])])
+    return max(0, wanted - usable)

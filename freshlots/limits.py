@@ -29,6 +29,11 @@ def demand_in_limits(demand):
     return 1 <= len(demand) <= MOST_WEEKS and max(demand) <= HIGHEST_AMOUNT
 
 
+def stock_in_limits(lots, demand):
+    """Tell whether both the lots and the demand are within their limits."""
+    return lots_in_limits(lots) and demand_in_limits(demand)
+
+
 def issuing_in_limits(rule, lots, demand):
     """Tell whether all that issuing by a rule needs is within its limits."""
-    return lots_in_limits(lots) and demand_in_limits(demand) and rule <= HIGHEST_RULE
+    return stock_in_limits(lots, demand) and rule <= HIGHEST_RULE

@@ -1,10 +1,27 @@
-"""What several test files need: a slow second way to issue, and inputs to compare it on."""
+"""What several test files need: calls of every operation, slow second ways to answer, and inputs."""
 
 import itertools
 import random
 
+from freshlots.issuing import best_proof, issued_in_week, remaining, shortages
 
 RULES = (0, 1)
+HIGHEST_HANDED_IN = 4294967295
+
+
+def calls_by_rule(lots, demand, rules, weeks):
+    """Every operation that takes a rule, with the arguments it is to be called with."""
+    for rule in rules:
+        yield shortages, (rule, lots, demand)
+        yield remaining, (rule, lots, demand)
+        for week in weeks:
+            yield issued_in_week, (rule, week, lots, demand)
+
+
+def calls(lots, demand, rules=RULES, weeks=(0,)):
+    """Every operation, with the arguments it is to be called with."""
+    yield from calls_by_rule(lots, demand, rules, weeks)
+    yield best_proof, (lots, demand)
 
 
 def rows_of(lots):
@@ -13,10 +30,11 @@ def rows_of(lots):
 
 
 def issue_unit_by_unit(rule, lots, demand):
-    """Issue one unit at a time; answer the shortage of each week and what is left of each lot."""
+    """Issue one unit at a time: the shortage of each week, what is left of each lot, each week's takings."""
     rows = rows_of(lots)
     left = [amount for _, _, amount in rows]
     unmet = [0] * len(demand)
+    taken = [[0] * len(rows) for _ in demand]
     for week, wanted in enumerate(demand):
         for _ in range(wanted):
             usable = [k for k, (first, last, _) in enumerate(rows) if left[k] and first <= week <= last]
@@ -25,8 +43,39 @@ def issue_unit_by_unit(rule, lots, demand):
                 continue
             last_weeks = [rows[k][1] for k in usable]
             sought = min(last_weeks) if rule == 0 else max(last_weeks)
-            left[usable[last_weeks.index(sought)]] -= 1
-    return unmet, left
+            used = usable[last_weeks.index(sought)]
+            left[used] -= 1
+            taken[week][used] += 1
+    return unmet, left, taken
+
+
+def proof_by_search(lots, demand):
+    """Look at every set of weeks as such: the greatest proven shortage and all the sets that have it."""
+    rows = rows_of(lots)
+    proven = {}
+    for size in range(len(demand) + 1):
+        for weeks in itertools.combinations(range(len(demand)), size):
+            usable = [amount for first, last, amount in rows if set(range(first, last + 1)) & set(weeks)]
+            proven[weeks] = max(0, sum(demand[week] for week in weeks) - sum(usable))
+    greatest = max(proven.values())
+    return greatest, [weeks for weeks, shortage in proven.items() if shortage == greatest]
+
+
+def least_shortage(lots, demand):
+    """Try every way to meet each week's demand from the usable lots: the least total shortage of all."""
+    rows = rows_of(lots)
+    reached = {tuple(amount for _, _, amount in rows): 0}
+    for week, wanted in enumerate(demand):
+        following = {}
+        for left, short in reached.items():
+            most = [kept if first <= week <= last else 0 for kept, (first, last, _) in zip(left, rows)]
+            for taken in itertools.product(*[range(amount + 1) for amount in most]):
+                if sum(taken) <= wanted:
+                    after = tuple(kept - amount for kept, amount in zip(left, taken))
+                    unmet = short + wanted - sum(taken)
+                    following[after] = min(unmet, following.get(after, unmet))
+        reached = following
+    return min(reached.values())
 
 
 def small_inputs():
@@ -37,10 +86,10 @@ def small_inputs():
     return itertools.product(RULES, lot_lists, demands)
 
 
-def varied_inputs():
+def varied_inputs(count=3000):
     """Inputs of up to six lots and ten weeks, the same ones in every run."""
     source = random.Random(20)
-    for _ in range(3000):
+    for _ in range(count):
         weeks = source.randint(1, 10)
         highest = source.choice((3, 12, 99))
         latest = source.choice((weeks - 1, weeks, weeks + 2, 99))

@@ -78,7 +78,7 @@ class RemainingTest(unittest.TestCase):
     def test_like_issuing_unit_by_unit(self):
         for inputs in (small_inputs(), varied_inputs()):
             for rule, lots, demand in inputs:
-                _, left = issue_unit_by_unit(rule, lots, demand)
+                _, left, _ = issue_unit_by_unit(rule, lots, demand)
                 waste = sum(amount for amount, row in zip(left, rows_of(lots)) if row[1] < len(demand))
                 self.assertEqual(remaining(rule, lots, demand), [waste] + left, (rule, lots, demand))
 

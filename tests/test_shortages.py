@@ -67,7 +67,7 @@ class ShortagesTest(unittest.TestCase):
     def test_like_issuing_unit_by_unit(self):
         for inputs in (small_inputs(), varied_inputs()):
             for rule, lots, demand in inputs:
-                unmet, _ = issue_unit_by_unit(rule, lots, demand)
+                unmet, _, _ = issue_unit_by_unit(rule, lots, demand)
                 self.assertEqual(shortages(rule, lots, demand), [sum(unmet)] + unmet, (rule, lots, demand))
 
 

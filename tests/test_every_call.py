@@ -1,0 +1,230 @@
+"""What holds for all operations alike, and of several of them together."""
+
+import contextlib
+import io
+import itertools
+import unittest
+
+from freshlots.issuing import best_proof, issued_in_week, remaining, shortages
+from tests.helper import (
+    HIGHEST_HANDED_IN, RULES, UnchangingList, calls, calls_by_rule, least_shortage, rows_of, small_inputs, varied_inputs
+)
+
+LOTS = [0, 1, 3, 0, 0, 2]
+DEMAND = [2, 4]
+WRONG_RULES = (2, 3, 99, HIGHEST_HANDED_IN)
+
+
+def replaced(numbers, place, number):
+    return numbers[:place] + [number] + numbers[place + 1:]
+
+
+def answer_length(operation, lots, demand):
+    if operation is best_proof:
+        return 2
+    return 1 + (len(demand) if operation is shortages else len(lots) // 3)
+
+
+class LimitsTest(unittest.TestCase):
+    def check_answer(self, operation, arguments, expected):
+        with self.subTest(operation=operation.__name__, arguments=arguments):
+            self.assertEqual(operation(*arguments), expected)
+
+    def check_refused(self, lots, demand):
+        """Lots and demand go first: neither a wrong rule nor a week that doesn't exist changes the code."""
+        weeks = (0, len(demand), HIGHEST_HANDED_IN)
+        for operation, arguments in calls(lots, demand, rules=RULES + WRONG_RULES, weeks=weeks):
+            self.check_answer(operation, arguments, [-22])
+
+    def check_taken(self, lots, demand):
+        for operation, arguments in calls(lots, demand, weeks=range(len(demand))):
+            with self.subTest(operation=operation.__name__, arguments=arguments):
+                answer = operation(*arguments)
+                self.assertEqual(len(answer), answer_length(operation, lots, demand))
+                self.assertGreaterEqual(min(answer), 0)
+
+    def test_length_of_lots_is_not_a_multiple_of_three(self):
+        for length in range(22):
+            numbers = (LOTS * 4)[:length]
+            if length % 3 == 0 and length <= 18:
+                self.check_taken(numbers, DEMAND)
+            else:
+                self.check_refused(numbers, DEMAND)
+
+    def test_numbers_of_an_unfinished_lot(self):
+        self.check_refused([0], DEMAND)
+        self.check_refused([0, 0], DEMAND)
+        self.check_refused([0] * 19, DEMAND)
+        self.check_refused([0] * 20, DEMAND)
+
+    def test_seven_lots(self):
+        self.check_taken([0, 1, 3] * 6, DEMAND)
+        self.check_refused([0, 1, 3] * 7, DEMAND)
+        self.check_refused([0, 0, 0] * 7, DEMAND)
+
+    def test_first_week_later_than_the_last_one(self):
+        self.check_taken([1, 1, 3], DEMAND)
+        self.check_refused([1, 0, 3], DEMAND)
+        self.check_refused([2, 1, 0], DEMAND)
+        self.check_refused([99, 98, 3], DEMAND)
+
+    def test_weeks_of_a_lot_above_99(self):
+        self.check_taken([0, 99, 3], DEMAND)
+        self.check_taken([99, 99, 3], DEMAND)
+        self.check_refused([0, 100, 3], DEMAND)
+        self.check_refused([100, 100, 3], DEMAND)
+        self.check_refused([100, 99, 3], DEMAND)
+
+    def test_amount_above_99(self):
+        self.check_taken([0, 1, 99], DEMAND)
+        self.check_refused([0, 1, 100], DEMAND)
+
+    def test_fault_in_each_of_the_lots(self):
+        for fault, index in itertools.product(([1, 0, 3], [0, 100, 3], [0, 1, 100]), range(6)):
+            rows = [[0, 1, 3]] * 6
+            self.check_refused(sum(replaced(rows, index, fault), []), DEMAND)
+
+    def test_number_of_weeks(self):
+        for length in range(13):
+            if 1 <= length <= 10:
+                self.check_taken(LOTS, [1] * length)
+                self.check_taken([], [0] * length)
+            else:
+                self.check_refused(LOTS, [1] * length)
+                self.check_refused([], [0] * length)
+
+    def test_demand_above_99(self):
+        for place in range(10):
+            self.check_taken(LOTS, replaced([0] * 10, place, 99))
+            self.check_refused(LOTS, replaced([0] * 10, place, 100))
+
+    def test_rule_above_1(self):
+        for lots, demand in ((LOTS, DEMAND), ([], [0])):
+            weeks = (0, len(demand), HIGHEST_HANDED_IN)
+            for operation, arguments in calls_by_rule(lots, demand, WRONG_RULES, weeks):
+                self.check_answer(operation, arguments, [-22])
+
+    def test_highest_number_in_each_place(self):
+        for place in range(len(LOTS)):
+            self.check_refused(replaced(LOTS, place, HIGHEST_HANDED_IN), DEMAND)
+        for place in range(len(DEMAND)):
+            self.check_refused(LOTS, replaced(DEMAND, place, HIGHEST_HANDED_IN))
+        self.check_refused([HIGHEST_HANDED_IN] * 21, [HIGHEST_HANDED_IN] * 12)
+
+    def test_lots_and_demand_both_faulty(self):
+        faulty_lots = ([0], [1, 0, 3], [0, 100, 3], [0, 1, 100], [0, 1, 3] * 7, [HIGHEST_HANDED_IN] * 20)
+        faulty_demand = ([], [100], [1] * 11, [1] * 12, [HIGHEST_HANDED_IN] * 12)
+        for lots, demand in itertools.product(faulty_lots, faulty_demand):
+            self.check_refused(lots, demand)
+
+
+class CallsTest(unittest.TestCase):
+    HANDED_IN = [
+        (LOTS, DEMAND),
+        ([], [5]),
+        ([0, 9, 99] * 6, [99] * 10),
+        ([1, 0, 3], DEMAND),
+        (LOTS, []),
+    ]
+
+    def all_calls(self):
+        for lots, demand in self.HANDED_IN:
+            yield from calls(lots, demand, rules=(0, 1, 2), weeks=(0, 1, 2))
+
+    def test_lists_handed_in_are_never_changed(self):
+        for lots, demand in self.HANDED_IN:
+            handed_lots, handed_demand = UnchangingList(lots), UnchangingList(demand)
+            for operation, arguments in calls(handed_lots, handed_demand, rules=(0, 1, 2), weeks=(0, 1, 2)):
+                with self.subTest(operation=operation.__name__, arguments=arguments):
+                    operation(*arguments)
+                    self.assertEqual(handed_lots, lots)
+                    self.assertEqual(handed_demand, demand)
+
+    def test_second_call_answers_the_same(self):
+        made = list(self.all_calls())
+        first = [operation(*arguments) for operation, arguments in made]
+        again = [operation(*arguments) for operation, arguments in reversed(made)]
+        self.assertEqual(first, again[::-1])
+
+    def test_changing_an_answer_changes_no_later_one(self):
+        for operation, arguments in self.all_calls():
+            with self.subTest(operation=operation.__name__, arguments=arguments):
+                answer = operation(*arguments)
+                kept = list(answer)
+                answer.append(7)
+                answer[0] = 1000
+                self.assertEqual(operation(*arguments), kept)
+
+    def test_answer_is_a_list_of_whole_numbers(self):
+        for operation, arguments in self.all_calls():
+            with self.subTest(operation=operation.__name__, arguments=arguments):
+                answer = operation(*arguments)
+                self.assertIs(type(answer), list)
+                self.assertEqual({type(number) for number in answer}, {int})
+
+    def test_nothing_is_printed(self):
+        printed = io.StringIO()
+        with contextlib.redirect_stdout(printed), contextlib.redirect_stderr(printed):
+            for operation, arguments in self.all_calls():
+                operation(*arguments)
+        self.assertEqual(printed.getvalue(), "")
+
+    def test_arguments_bear_the_names_of_the_document(self):
+        by_name = {"rule": 1, "lots": LOTS, "demand": DEMAND}
+        self.assertEqual(shortages(**by_name), shortages(1, LOTS, DEMAND))
+        self.assertEqual(remaining(**by_name), remaining(1, LOTS, DEMAND))
+        self.assertEqual(issued_in_week(week=0, **by_name), issued_in_week(1, 0, LOTS, DEMAND))
+        self.assertEqual(best_proof(demand=DEMAND, lots=LOTS), best_proof(LOTS, DEMAND))
+
+
+class RequirementsTest(unittest.TestCase):
+    def test_no_way_to_issue_has_a_smaller_shortage_than_rule_0(self):
+        for rule, lots, demand in small_inputs():
+            least = least_shortage(lots, demand)
+            total = shortages(rule, lots, demand)[0]
+            if rule == 0:
+                self.assertEqual(total, least, (lots, demand))
+            else:
+                self.assertGreaterEqual(total, least, (lots, demand))
+
+    def test_greatest_proof_is_the_shortage_of_rule_0_and_no_more_than_that_of_rule_1(self):
+        for inputs in (small_inputs(), varied_inputs()):
+            for _, lots, demand in inputs:
+                proven = best_proof(lots, demand)[0]
+                self.assertEqual(proven, shortages(0, lots, demand)[0], (lots, demand))
+                self.assertLessEqual(proven, shortages(1, lots, demand)[0], (lots, demand))
+
+    def test_issued_and_remaining_add_up_to_all_amounts(self):
+        for inputs in (small_inputs(), varied_inputs()):
+            for rule, lots, demand in inputs:
+                issued = sum(demand) - shortages(rule, lots, demand)[0]
+                left = remaining(rule, lots, demand)[1:]
+                self.assertEqual(issued + sum(left), sum(lots[2::3]), (rule, lots, demand))
+
+    def test_issued_and_remaining_of_each_lot_add_up_to_its_amount(self):
+        for inputs in (small_inputs(), varied_inputs()):
+            for rule, lots, demand in inputs:
+                added = remaining(rule, lots, demand)[1:]
+                for week in range(len(demand)):
+                    taken = issued_in_week(rule, week, lots, demand)[1:]
+                    added = [kept + amount for kept, amount in zip(added, taken, strict=True)]
+                self.assertEqual(added, lots[2::3], (rule, lots, demand))
+
+    def test_issued_and_shortage_of_each_week_add_up_to_its_demand(self):
+        for inputs in (small_inputs(), varied_inputs()):
+            for rule, lots, demand in inputs:
+                unmet = shortages(rule, lots, demand)[1:]
+                added = [sum(issued_in_week(rule, week, lots, demand)[1:]) + unmet[week] for week in range(len(demand))]
+                self.assertEqual(added, demand, (rule, lots, demand))
+
+    def test_no_shortage_exceeds_its_demand_and_no_remainder_its_lot(self):
+        for rule, lots, demand in varied_inputs():
+            unmet = shortages(rule, lots, demand)
+            left = remaining(rule, lots, demand)
+            self.assertEqual(unmet[0], sum(unmet[1:]))
+            self.assertTrue(all(0 <= short <= wanted for short, wanted in zip(unmet[1:], demand)))
+            self.assertTrue(all(0 <= kept <= row[2] for kept, row in zip(left[1:], rows_of(lots))))
+
+
+if __name__ == "__main__":
+    unittest.main()
