@@ -1,6 +1,6 @@
 """The operations on lots of a perishable product and on the demand of the weeks."""
 
-from freshlots.limits import NUMBERS_PER_LOT, issuing_in_limits, stock_in_limits
+from freshlots.limits import NUMBERS_PER_LOT, issuing_in_limits, mask_in_limits, stock_in_limits, table_in_limits
 
 
 class Lot:
@@ -63,6 +63,23 @@ def best_proof(lots, demand):
     return [shortage, smallest]
 
 
+def proven_shortage(mask, lots, demand):
+    """Answer the shortage that the set of weeks of the mask proves."""
+    if not stock_in_limits(lots, demand) or not mask_in_limits(mask, demand):
+        return out_of_limits()
+    return [proven_by(mask, read_lots(lots), demand)]
+
+
+def check_plan(lots, demand, table):
+    """Answer 1 for a feasible plan and 0 for another, then the demand that the plan leaves unmet."""
+    if not stock_in_limits(lots, demand) or not table_in_limits(table):
+        return out_of_limits()
+    unmet = max(0, sum(demand) - sum(table))
+    if is_feasible(read_lots(lots), demand, table):
+        return [1, unmet]
+    return [0, unmet]
+
+
 def out_of_limits():
     """Answer the refusal of an argument that is outside its limits."""
     return [-22]
@@ -119,3 +136,22 @@ def proven_by(mask, stock, demand):
     wanted = sum([demand[week] for week in weeks])
     usable = sum([lot.amount for lot in stock if any([lot.usable_in(week) for week in weeks])])
     return max(0, wanted - usable)
+
+
+def is_feasible(stock, demand, table):
+    """Tell whether the table is a plan that the lots and the demand allow."""
+    if len(table) != len(demand) * len(stock):
+        return False
+    plan = [table[week * len(stock):(week + 1) * len(stock)] for week in range(len(demand))]
+    for week, wanted in enumerate(demand):
+        if sum(plan[week]) > wanted or uses_unusable(stock, week, plan[week]):
+            return False
+    for index, lot in enumerate(stock):
+        if sum([amounts[index] for amounts in plan]) > lot.amount:
+            return False
+    return True
+
+
+def uses_unusable(stock, week, amounts):
+    """Tell whether something is taken from a lot that is not usable in the week."""
+    return any([amount > 0 and not lot.usable_in(week) for lot, amount in zip(stock, amounts)])

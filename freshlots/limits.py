@@ -37,3 +37,13 @@ def stock_in_limits(lots, demand):
 def issuing_in_limits(rule, lots, demand):
     """Tell whether all that issuing by a rule needs is within its limits."""
     return stock_in_limits(lots, demand) and rule <= HIGHEST_RULE
+
+
+def mask_in_limits(mask, demand):
+    """Tell whether the mask contains no other weeks than those of the demand."""
+    return mask < (1 << len(demand))
+
+
+def table_in_limits(table):
+    """Tell whether every amount of the table is within its limits, whatever its length."""
+    return all([amount <= HIGHEST_AMOUNT for amount in table])

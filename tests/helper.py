@@ -3,7 +3,7 @@
 import itertools
 import random
 
-from freshlots.issuing import best_proof, issued_in_week, remaining, shortages
+from freshlots.issuing import best_proof, check_plan, issued_in_week, proven_shortage, remaining, shortages
 
 RULES = (0, 1)
 HIGHEST_HANDED_IN = 4294967295
@@ -18,10 +18,14 @@ def calls_by_rule(lots, demand, rules, weeks):
             yield issued_in_week, (rule, week, lots, demand)
 
 
-def calls(lots, demand, rules=RULES, weeks=(0,)):
+def calls(lots, demand, rules=RULES, weeks=(0,), masks=(0,), tables=([],)):
     """Every operation, with the arguments it is to be called with."""
     yield from calls_by_rule(lots, demand, rules, weeks)
     yield best_proof, (lots, demand)
+    for mask in masks:
+        yield proven_shortage, (mask, lots, demand)
+    for table in tables:
+        yield check_plan, (lots, demand, table)
 
 
 def rows_of(lots):
@@ -49,16 +53,50 @@ def issue_unit_by_unit(rule, lots, demand):
     return unmet, left, taken
 
 
-def proof_by_search(lots, demand):
-    """Look at every set of weeks as such: the greatest proven shortage and all the sets that have it."""
+def proofs_of_all_sets(lots, demand):
+    """Look at every set of weeks as such, not at its mask: the proven shortage of each."""
     rows = rows_of(lots)
     proven = {}
     for size in range(len(demand) + 1):
         for weeks in itertools.combinations(range(len(demand)), size):
             usable = [amount for first, last, amount in rows if set(range(first, last + 1)) & set(weeks)]
             proven[weeks] = max(0, sum(demand[week] for week in weeks) - sum(usable))
+    return proven
+
+
+def proof_by_search(lots, demand):
+    """The greatest proven shortage and all the sets of weeks that have it."""
+    proven = proofs_of_all_sets(lots, demand)
     greatest = max(proven.values())
     return greatest, [weeks for weeks, shortage in proven.items() if shortage == greatest]
+
+
+def mask_of(weeks):
+    """The mask of a set of weeks."""
+    return sum(2 ** week for week in weeks)
+
+
+def table_of_issuing(rule, lots, demand):
+    """What is issued by the rule, week by week, as a plan."""
+    taken = [issued_in_week(rule, week, lots, demand)[1:] for week in range(len(demand))]
+    return [amount for amounts in taken for amount in amounts]
+
+
+def feasible_unit_by_unit(lots, demand, table):
+    """Follow the plan one unit at a time: whether each unit can be had and is wanted."""
+    rows = rows_of(lots)
+    if len(table) != len(rows) * len(demand):
+        return False
+    left = [amount for _, _, amount in rows]
+    wanted = list(demand)
+    for place, amount in enumerate(table):
+        week, index = divmod(place, len(rows))
+        for _ in range(amount):
+            if week not in range(rows[index][0], rows[index][1] + 1) or left[index] == 0 or wanted[week] == 0:
+                return False
+            left[index] -= 1
+            wanted[week] -= 1
+    return True
 
 
 def least_shortage(lots, demand):

@@ -1,7 +1,7 @@
 import unittest
 
 from freshlots.issuing import best_proof, shortages
-from tests.helper import proof_by_search, small_inputs, varied_inputs
+from tests.helper import mask_of, proof_by_search, small_inputs, varied_inputs
 
 
 class BestProofTest(unittest.TestCase):
@@ -86,7 +86,7 @@ class BestProofTest(unittest.TestCase):
         for inputs in (small_inputs(), varied_inputs(500)):
             for _, lots, demand in inputs:
                 greatest, sets = proof_by_search(lots, demand)
-                smallest = min(sum(2 ** week for week in weeks) for weeks in sets)
+                smallest = min(mask_of(weeks) for weeks in sets)
                 self.assertEqual(best_proof(lots, demand), [greatest, smallest], (lots, demand))
 
     def test_a_set_proves_nothing_only_where_nothing_is_short(self):

@@ -5,14 +5,16 @@ import io
 import itertools
 import unittest
 
-from freshlots.issuing import best_proof, issued_in_week, remaining, shortages
+from freshlots.issuing import best_proof, check_plan, issued_in_week, proven_shortage, remaining, shortages
 from tests.helper import (
-    HIGHEST_HANDED_IN, RULES, UnchangingList, calls, calls_by_rule, least_shortage, rows_of, small_inputs, varied_inputs
+    HIGHEST_HANDED_IN, RULES, UnchangingList, calls, calls_by_rule, least_shortage, rows_of, small_inputs,
+    table_of_issuing, varied_inputs
 )
 
 LOTS = [0, 1, 3, 0, 0, 2]
 DEMAND = [2, 4]
 WRONG_RULES = (2, 3, 99, HIGHEST_HANDED_IN)
+TABLES = ([], [0, 2, 3, 0], [0] * 60, [99] * 62, [100], [0, 2, 3, 100], [HIGHEST_HANDED_IN] * 62)
 
 
 def replaced(numbers, place, number):
@@ -20,9 +22,11 @@ def replaced(numbers, place, number):
 
 
 def answer_length(operation, lots, demand):
-    if operation is best_proof:
-        return 2
-    return 1 + (len(demand) if operation is shortages else len(lots) // 3)
+    if operation is shortages:
+        return 1 + len(demand)
+    if operation in (remaining, issued_in_week):
+        return 1 + len(lots) // 3
+    return 1 if operation is proven_shortage else 2
 
 
 class LimitsTest(unittest.TestCase):
@@ -31,13 +35,16 @@ class LimitsTest(unittest.TestCase):
             self.assertEqual(operation(*arguments), expected)
 
     def check_refused(self, lots, demand):
-        """Lots and demand go first: neither a wrong rule nor a week that doesn't exist changes the code."""
+        """Lots and demand go first: no other argument, right or wrong, changes the code."""
         weeks = (0, len(demand), HIGHEST_HANDED_IN)
-        for operation, arguments in calls(lots, demand, rules=RULES + WRONG_RULES, weeks=weeks):
+        masks = (0, 2 ** len(demand), HIGHEST_HANDED_IN)
+        for operation, arguments in calls(lots, demand, RULES + WRONG_RULES, weeks, masks, TABLES):
             self.check_answer(operation, arguments, [-22])
 
     def check_taken(self, lots, demand):
-        for operation, arguments in calls(lots, demand, weeks=range(len(demand))):
+        masks = (0, 2 ** len(demand) - 1)
+        tables = [[], [0] * (len(lots) // 3 * len(demand)), [99] * 62]
+        for operation, arguments in calls(lots, demand, weeks=range(len(demand)), masks=masks, tables=tables):
             with self.subTest(operation=operation.__name__, arguments=arguments):
                 answer = operation(*arguments)
                 self.assertEqual(len(answer), answer_length(operation, lots, demand))
@@ -127,18 +134,23 @@ class CallsTest(unittest.TestCase):
         (LOTS, []),
     ]
 
+    def calls_of(self, lots, demand, tables):
+        return calls(lots, demand, rules=(0, 1, 2), weeks=(0, 1, 2), masks=(0, 1, 3, 1023, 1024), tables=tables)
+
     def all_calls(self):
         for lots, demand in self.HANDED_IN:
-            yield from calls(lots, demand, rules=(0, 1, 2), weeks=(0, 1, 2))
+            yield from self.calls_of(lots, demand, TABLES)
 
     def test_lists_handed_in_are_never_changed(self):
         for lots, demand in self.HANDED_IN:
             handed_lots, handed_demand = UnchangingList(lots), UnchangingList(demand)
-            for operation, arguments in calls(handed_lots, handed_demand, rules=(0, 1, 2), weeks=(0, 1, 2)):
+            handed_tables = [UnchangingList(table) for table in TABLES]
+            for operation, arguments in self.calls_of(handed_lots, handed_demand, handed_tables):
                 with self.subTest(operation=operation.__name__, arguments=arguments):
                     operation(*arguments)
                     self.assertEqual(handed_lots, lots)
                     self.assertEqual(handed_demand, demand)
+                    self.assertEqual(handed_tables, list(TABLES))
 
     def test_second_call_answers_the_same(self):
         made = list(self.all_calls())
@@ -175,6 +187,8 @@ class CallsTest(unittest.TestCase):
         self.assertEqual(remaining(**by_name), remaining(1, LOTS, DEMAND))
         self.assertEqual(issued_in_week(week=0, **by_name), issued_in_week(1, 0, LOTS, DEMAND))
         self.assertEqual(best_proof(demand=DEMAND, lots=LOTS), best_proof(LOTS, DEMAND))
+        self.assertEqual(proven_shortage(demand=DEMAND, lots=LOTS, mask=2), proven_shortage(2, LOTS, DEMAND))
+        self.assertEqual(check_plan(table=[0] * 4, demand=DEMAND, lots=LOTS), check_plan(LOTS, DEMAND, [0] * 4))
 
 
 class RequirementsTest(unittest.TestCase):
@@ -193,6 +207,14 @@ class RequirementsTest(unittest.TestCase):
                 proven = best_proof(lots, demand)[0]
                 self.assertEqual(proven, shortages(0, lots, demand)[0], (lots, demand))
                 self.assertLessEqual(proven, shortages(1, lots, demand)[0], (lots, demand))
+
+    def test_what_rule_0_issues_is_a_plan_that_leaves_no_more_than_is_proven(self):
+        for inputs in (small_inputs(), varied_inputs()):
+            for _, lots, demand in inputs:
+                shortage, mask = best_proof(lots, demand)
+                self.assertEqual(proven_shortage(mask, lots, demand), [shortage], (lots, demand))
+                table = table_of_issuing(0, lots, demand)
+                self.assertEqual(check_plan(lots, demand, table), [1, shortage], (lots, demand))
 
     def test_issued_and_remaining_add_up_to_all_amounts(self):
         for inputs in (small_inputs(), varied_inputs()):
