@@ -2,6 +2,8 @@
 
 from freshlots.limits import NUMBERS_PER_LOT, issuing_in_limits, mask_in_limits, stock_in_limits, table_in_limits
 
+EARLIEST_EXPIRY = 0
+
 
 class Lot:
     """The first and the last week in which a lot is usable, and its amount."""
@@ -20,8 +22,7 @@ def shortages(rule, lots, demand):
     """Answer the total shortage, then the shortage of each week."""
     if not issuing_in_limits(rule, lots, demand):
         return out_of_limits()
-    taken = issue_all_weeks(rule, read_lots(lots), demand)
-    unmet = [wanted - sum(amounts) for wanted, amounts in zip(demand, taken)]
+    unmet = shortage_of_weeks(rule, read_lots(lots), demand)
     return [sum(unmet)] + unmet
 
 
@@ -80,13 +81,25 @@ def check_plan(lots, demand, table):
     return [0, unmet]
 
 
+def shortage_saved(lot, lots, demand):
+    """Answer how much smaller the total shortage of rule 0 is with one more unit of the lot."""
+    if not stock_in_limits(lots, demand):
+        return out_of_limits()
+    stock = read_lots(lots)
+    if lot >= len(stock):
+        return does_not_exist()
+    before = sum(shortage_of_weeks(EARLIEST_EXPIRY, stock, demand))
+    after = sum(shortage_of_weeks(EARLIEST_EXPIRY, with_one_more(lot, stock), demand))
+    return [before - after]
+
+
 def out_of_limits():
     """Answer the refusal of an argument that is outside its limits."""
     return [-22]
 
 
 def does_not_exist():
-    """Answer the refusal of a week that doesn't exist."""
+    """Answer the refusal of a week or a lot that doesn't exist."""
     return [-2]
 
 
@@ -95,9 +108,16 @@ def read_lots(lots):
     return [Lot(lots[start], lots[start + 1], lots[start + 2]) for start in range(0, len(lots), NUMBERS_PER_LOT)]
 
 
+def with_one_more(lot, stock):
+    """Answer the lots with one more unit of the lot."""
+    # The limits hold for what is handed in: the amount may well be one above the highest here.
+    chosen = stock[lot]
+    return stock[:lot] + [Lot(chosen.first, chosen.last, chosen.amount + 1)] + stock[lot + 1:]
+
+
 def order_of_use(rule, stock):
     """Answer the indexes of the lots in the order in which the rule uses them."""
-    if rule == 0:
+    if rule == EARLIEST_EXPIRY:
         return sorted(range(len(stock)), key=lambda index: (stock[index].last, index))
     return sorted(range(len(stock)), key=lambda index: (-stock[index].last, index))
 
@@ -123,6 +143,12 @@ def issue_one_week(wanted, usable, left):
         amounts[index] = min(unmet, left[index])
         unmet = unmet - amounts[index]
     return amounts
+
+
+def shortage_of_weeks(rule, stock, demand):
+    """Answer the shortage of each week."""
+    taken = issue_all_weeks(rule, stock, demand)
+    return [wanted - sum(amounts) for wanted, amounts in zip(demand, taken)]
 
 
 def subtract(left, amounts):

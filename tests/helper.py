@@ -3,7 +3,9 @@
 import itertools
 import random
 
-from freshlots.issuing import best_proof, check_plan, issued_in_week, proven_shortage, remaining, shortages
+from freshlots.issuing import (
+    best_proof, check_plan, issued_in_week, proven_shortage, remaining, shortage_saved, shortages
+)
 
 RULES = (0, 1)
 HIGHEST_HANDED_IN = 4294967295
@@ -18,7 +20,7 @@ def calls_by_rule(lots, demand, rules, weeks):
             yield issued_in_week, (rule, week, lots, demand)
 
 
-def calls(lots, demand, rules=RULES, weeks=(0,), masks=(0,), tables=([],)):
+def calls(lots, demand, rules=RULES, weeks=(0,), masks=(0,), tables=([],), indexes=(0,)):
     """Every operation, with the arguments it is to be called with."""
     yield from calls_by_rule(lots, demand, rules, weeks)
     yield best_proof, (lots, demand)
@@ -26,6 +28,8 @@ def calls(lots, demand, rules=RULES, weeks=(0,), masks=(0,), tables=([],)):
         yield proven_shortage, (mask, lots, demand)
     for table in tables:
         yield check_plan, (lots, demand, table)
+    for index in indexes:
+        yield shortage_saved, (index, lots, demand)
 
 
 def rows_of(lots):
@@ -136,6 +140,17 @@ def varied_inputs(count=3000):
             first, last = sorted((source.randint(0, latest), source.randint(0, latest)))
             lots += [first, last, source.randint(0, highest)]
         yield source.choice(RULES), lots, [source.randint(0, highest) for _ in range(weeks)]
+
+
+def inputs_to_try_out(count=300):
+    """Inputs so small that every way to issue can be tried, the same ones in every run."""
+    source = random.Random(22)
+    for _ in range(count):
+        lots = []
+        for _ in range(source.randint(0, 4)):
+            first, last = sorted((source.randint(0, 4), source.randint(0, 4)))
+            lots += [first, last, source.randint(0, 3)]
+        yield lots, [source.randint(0, 4) for _ in range(source.randint(1, 4))]
 
 
 class UnchangingList(list):

@@ -5,10 +5,12 @@ import io
 import itertools
 import unittest
 
-from freshlots.issuing import best_proof, check_plan, issued_in_week, proven_shortage, remaining, shortages
+from freshlots.issuing import (
+    best_proof, check_plan, issued_in_week, proven_shortage, remaining, shortage_saved, shortages
+)
 from tests.helper import (
-    HIGHEST_HANDED_IN, RULES, UnchangingList, calls, calls_by_rule, least_shortage, rows_of, small_inputs,
-    table_of_issuing, varied_inputs
+    HIGHEST_HANDED_IN, RULES, UnchangingList, calls, calls_by_rule, inputs_to_try_out, least_shortage, rows_of,
+    small_inputs, table_of_issuing, varied_inputs
 )
 
 LOTS = [0, 1, 3, 0, 0, 2]
@@ -26,7 +28,7 @@ def answer_length(operation, lots, demand):
         return 1 + len(demand)
     if operation in (remaining, issued_in_week):
         return 1 + len(lots) // 3
-    return 1 if operation is proven_shortage else 2
+    return 1 if operation in (proven_shortage, shortage_saved) else 2
 
 
 class LimitsTest(unittest.TestCase):
@@ -38,13 +40,15 @@ class LimitsTest(unittest.TestCase):
         """Lots and demand go first: no other argument, right or wrong, changes the code."""
         weeks = (0, len(demand), HIGHEST_HANDED_IN)
         masks = (0, 2 ** len(demand), HIGHEST_HANDED_IN)
-        for operation, arguments in calls(lots, demand, RULES + WRONG_RULES, weeks, masks, TABLES):
+        indexes = (0, len(lots) // 3, HIGHEST_HANDED_IN)
+        for operation, arguments in calls(lots, demand, RULES + WRONG_RULES, weeks, masks, TABLES, indexes):
             self.check_answer(operation, arguments, [-22])
 
     def check_taken(self, lots, demand):
+        weeks, indexes = range(len(demand)), range(len(lots) // 3)
         masks = (0, 2 ** len(demand) - 1)
         tables = [[], [0] * (len(lots) // 3 * len(demand)), [99] * 62]
-        for operation, arguments in calls(lots, demand, weeks=range(len(demand)), masks=masks, tables=tables):
+        for operation, arguments in calls(lots, demand, RULES, weeks, masks, tables, indexes):
             with self.subTest(operation=operation.__name__, arguments=arguments):
                 answer = operation(*arguments)
                 self.assertEqual(len(answer), answer_length(operation, lots, demand))
@@ -126,6 +130,24 @@ class LimitsTest(unittest.TestCase):
 
 
 class CallsTest(unittest.TestCase):
+    ANSWERS = [
+        (shortages, (0, LOTS, DEMAND), [1, 0, 1]),
+        (shortages, (1, LOTS, DEMAND), [3, 0, 3]),
+        (remaining, (0, LOTS, DEMAND), [0, 0, 0]),
+        (remaining, (1, LOTS, DEMAND), [2, 0, 2]),
+        (issued_in_week, (0, 0, LOTS, DEMAND), [2, 0, 2]),
+        (issued_in_week, (0, 2, LOTS, DEMAND), [-2]),
+        (best_proof, (LOTS, DEMAND), [1, 2]),
+        (best_proof, ([], [5, 0]), [5, 1]),
+        (proven_shortage, (3, LOTS, DEMAND), [1]),
+        (proven_shortage, (4, LOTS, DEMAND), [-22]),
+        (check_plan, (LOTS, DEMAND, [0, 2, 3, 0]), [1, 1]),
+        (check_plan, (LOTS, DEMAND, [3, 2]), [0, 1]),
+        (check_plan, (LOTS, DEMAND, [100]), [-22]),
+        (shortage_saved, (0, LOTS, DEMAND), [1]),
+        (shortage_saved, (1, LOTS, DEMAND), [0]),
+        (shortage_saved, (2, LOTS, DEMAND), [-2]),
+    ]
     HANDED_IN = [
         (LOTS, DEMAND),
         ([], [5]),
@@ -135,7 +157,8 @@ class CallsTest(unittest.TestCase):
     ]
 
     def calls_of(self, lots, demand, tables):
-        return calls(lots, demand, rules=(0, 1, 2), weeks=(0, 1, 2), masks=(0, 1, 3, 1023, 1024), tables=tables)
+        masks = (0, 1, 3, 1023, 1024)
+        return calls(lots, demand, rules=(0, 1, 2), weeks=(0, 1, 2), masks=masks, tables=tables, indexes=(0, 1, 6))
 
     def all_calls(self):
         for lots, demand in self.HANDED_IN:
@@ -151,6 +174,19 @@ class CallsTest(unittest.TestCase):
                     self.assertEqual(handed_lots, lots)
                     self.assertEqual(handed_demand, demand)
                     self.assertEqual(handed_tables, list(TABLES))
+
+    def test_all_seven_functions_are_called(self):
+        called = {operation.__name__ for operation, _ in self.all_calls()}
+        self.assertEqual(called, {operation.__name__ for operation, _, _ in self.ANSWERS})
+        self.assertEqual(called, {
+            "shortages", "remaining", "issued_in_week", "best_proof", "proven_shortage", "check_plan", "shortage_saved",
+        })
+
+    def test_each_call_answers_the_same_behind_any_other(self):
+        for ahead, behind in itertools.product(self.ANSWERS, repeat=2):
+            for operation, arguments, expected in (ahead, behind):
+                with self.subTest(ahead=ahead, operation=operation.__name__, arguments=arguments):
+                    self.assertEqual(operation(*arguments), expected)
 
     def test_second_call_answers_the_same(self):
         made = list(self.all_calls())
@@ -189,6 +225,7 @@ class CallsTest(unittest.TestCase):
         self.assertEqual(best_proof(demand=DEMAND, lots=LOTS), best_proof(LOTS, DEMAND))
         self.assertEqual(proven_shortage(demand=DEMAND, lots=LOTS, mask=2), proven_shortage(2, LOTS, DEMAND))
         self.assertEqual(check_plan(table=[0] * 4, demand=DEMAND, lots=LOTS), check_plan(LOTS, DEMAND, [0] * 4))
+        self.assertEqual(shortage_saved(demand=DEMAND, lots=LOTS, lot=0), shortage_saved(0, LOTS, DEMAND))
 
 
 class RequirementsTest(unittest.TestCase):
@@ -200,6 +237,20 @@ class RequirementsTest(unittest.TestCase):
                 self.assertEqual(total, least, (lots, demand))
             else:
                 self.assertGreaterEqual(total, least, (lots, demand))
+
+    def test_shortage_of_rule_0_is_the_least_of_all_ways_and_the_greatest_proof(self):
+        for lots, demand in inputs_to_try_out():
+            least = least_shortage(lots, demand)
+            self.assertEqual(shortages(0, lots, demand)[0], least, (lots, demand))
+            self.assertEqual(best_proof(lots, demand)[0], least, (lots, demand))
+            proven = [proven_shortage(mask, lots, demand)[0] for mask in range(2 ** len(demand))]
+            self.assertEqual(max(proven), least, (lots, demand))
+
+    def test_one_more_unit_saves_1_or_nothing(self):
+        for inputs in (small_inputs(), varied_inputs()):
+            for _, lots, demand in inputs:
+                saved = [shortage_saved(index, lots, demand) for index in range(len(lots) // 3)]
+                self.assertTrue(all(answer in ([0], [1]) for answer in saved), (lots, demand))
 
     def test_greatest_proof_is_the_shortage_of_rule_0_and_no_more_than_that_of_rule_1(self):
         for inputs in (small_inputs(), varied_inputs()):
